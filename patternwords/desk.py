@@ -47,8 +47,6 @@ def each_answer(pattern, first, many):
 
 
 class Desk:
-    """Goes through a list of calls, and keeps the pattern that they are about."""
-
     def __init__(self, calls):
         self.calls = calls
         self.place = 0
@@ -96,7 +94,6 @@ class Desk:
 
 
 def answers(calls):
-    """The answers to all calls in order, each behind the count of its numbers."""
     desk = Desk(calls)
     result = []
     while desk.has_more():

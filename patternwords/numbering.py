@@ -1,8 +1,8 @@
 """The words of a piece by their numbers: a stretch of them is built at once, so that its words share their work."""
 
 
+# The piece must have all the words that are asked for: the callers know how many there are.
 def words_from(piece, first, many):
-    """The words with the numbers first, first + 1 and so on, as many as asked; the piece must have them all."""
     # These functions call one another, but no deeper than about 200 calls: a pattern has 32 brackets within one
     # another, each may be repeated, and a step into a piece takes three calls.
     if piece.total == 1:
@@ -20,8 +20,8 @@ def words_from(piece, first, many):
     return words
 
 
+# The pieces are like the digits of a number, the last of them turning fastest: so the number tells each one's word.
 def branch_words(branch, first, many):
-    """The same for a branch: its pieces are like the digits of a number, the last of them turning fastest."""
     words = [()]
     behind = branch.total
     for piece in branch.pieces:
@@ -36,8 +36,8 @@ def branch_words(branch, first, many):
     return words
 
 
+# Behind the last word the first comes again, as it does each time the piece ahead goes on to its next word.
 def words_around(piece, first, many):
-    """As many words as asked, in order; behind the last one the first comes again."""
     start = first % piece.total
     left = piece.total - start
     if many <= left:

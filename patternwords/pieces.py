@@ -4,9 +4,8 @@ MOST_LETTERS = 255
 MOST_WORDS = 18446744073709551615
 
 
+# A piece of one word keeps the word itself, for a walk through what it was made of may be too long.
 class Piece:
-    """A letter, a pattern in brackets or a repeated item: either one word, or the words of branches in turn."""
-
     def __init__(self, total, longest, word, branches):
         self.total = total
         self.longest = longest
@@ -15,8 +14,6 @@ class Piece:
 
 
 class Branch:
-    """Pieces one behind another."""
-
     def __init__(self, total, longest, pieces):
         self.total = total
         self.longest = longest
@@ -27,9 +24,8 @@ def single(word):
     return Piece(1, len(word), word, [])
 
 
+# Without this, brackets that only repeat the empty word could ask for more steps than anyone can wait for.
 def merged(pieces):
-    """The same words from as few pieces as may be."""
-    # Without this, brackets that only repeat the empty word could ask for more steps than anyone can wait for.
     result = []
     for piece in pieces:
         if piece.total == 1 and len(result) > 0 and result[-1].total == 1:
@@ -42,7 +38,6 @@ def merged(pieces):
 
 
 def chained(pieces):
-    """The branch that has these pieces one behind another."""
     total = 1
     longest = 0
     for piece in pieces:
@@ -56,7 +51,6 @@ def chained(pieces):
 
 
 def alternatives(branches):
-    """The piece that has the words of these branches, one branch after another."""
     if len(branches) == 1 and len(branches[0].pieces) == 1:
         return branches[0].pieces[0]
     total = min(sum([branch.total for branch in branches]), MOST_WORDS + 1)

@@ -21,9 +21,8 @@ AWAIT_MOST = 3
 AWAIT_BRACE = 4
 
 
+# Brackets are kept in a list of levels: what stands in them is read by one loop, however deep it is.
 class Level:
-    """What has been read of one pattern: its ended branches, and the pieces of the branch that goes on."""
-
     def __init__(self):
         self.branches = []
         self.pieces = []
@@ -37,9 +36,8 @@ class Level:
         return alternatives(self.branches)
 
 
+# Each method that takes a byte answers whether it can stand there, for load has to tell the place of one that can't.
 class Reader:
-    """Takes the bytes of a text in order; each method that takes one tells whether it can stand there."""
-
     def __init__(self):
         self.levels = [Level()]
         self.awaits = AWAIT_SIGN
